@@ -1,0 +1,1 @@
+"""Wokenlives: a language of lives that run in simulated time."""
