@@ -157,6 +157,9 @@ class DoubleNameTest(NamesCase):
                      "class c() { var x = 0; var x = 0; }", "class c() { deed x() { } var x = 0; }",
                      "class c() { var x = 0; deed x() { } }", "class c() { deed x() { } deed x() { } }"):
             self.refused(text, "DoubleName", "x", 2)
+        for text in ("class c(x) { deed x(y) { } }", "class c() { var x = 0; deed x(y) { } }",
+                     "class c() { deed x(y) { } var x = 0; }"):
+            self.refused(text, "DoubleName", "x", 2)
         self.right("class c(x) { } class d(x) { }")
         self.right("class c() { var x = 0; } class d() { deed x() { } }")
 
@@ -203,6 +206,7 @@ class UnknownNameTest(NamesCase):
 
     def test_a_word_is_free(self):
         self.right("class c() { life { tell zz(); tell c(); } }")
+        self.right("class c() { deed d(x) { } life { tell d(); tell d(1, 2); } }")
 
     def test_outer_and_made_ask_the_items_alone(self):
         self.refused("class c() { var v = 0; life { make v = v(); } }", "UnknownName", "v", 3)

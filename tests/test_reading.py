@@ -166,6 +166,14 @@ class ExpressionsTest(unittest.TestCase):
         ):
             self.assertEqual(expression(text), expression(same), text)
 
+    def test_all_comparisons_have_one_rank(self):
+        for sign in "== != < <= > >=".split():
+            self.assertEqual(expression(f"not a + b {sign} c - d"), expression(f"not ((a + b) {sign} (c - d))"))
+            self.assertEqual(expression(f"a {sign} b and c {sign} d"), expression(f"(a {sign} b) and (c {sign} d)"))
+            for other in "== != < <= > >=".split():
+                text = life_text(f"hold a {sign} b {other} c;")
+                self.assertEqual(refusal(read_tree, text), ("BadForm", 1, 30 + len(sign)))
+
     def test_wrong_forms(self):
         for text, column in (
             ("a == b == c", 32), ("a < b + c >= d", 35), ("not a == b != c", 36), ("a + not b", 29), ("- not a", 27),

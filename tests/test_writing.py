@@ -122,6 +122,12 @@ class ExpressionsTest(unittest.TestCase):
             self.assertEqual(write_expression(expression(text)), wanted)
             self.assertEqual(expression(wanted), expression(text))
 
+    def test_comparisons_beside_other_operators(self):
+        for sign in "== != < <= > >=".split():
+            for text in (f"a + b {sign} c - d", f"(a {sign} b) + 1", f"(a {sign} b) {sign} (c {sign} d)",
+                         f"not a {sign} b", f"(not a) {sign} b", f"a {sign} b or c {sign} d"):
+                self.assertEqual(write_expression(expression(text)), text)
+
     def test_all_pairs_of_operators(self):
         signs = "or and == != < <= > >= + - * / mod".split()
         parts = [(sign, ("name", "a"), ("number", 2)) for sign in signs] + [("not", ("me",)), ("neg", ("now",))]
