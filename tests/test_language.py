@@ -9,7 +9,7 @@ import unittest
 PACKAGE = pathlib.Path(__file__).resolve().parent.parent / "wokenlives"
 
 ALLOWED_BUILTINS = set(
-    "len range enumerate zip min max sum abs sorted reversed int str bool bytes list tuple dict set frozenset isinstance "
+    "len range enumerate zip iter min max sum abs sorted reversed int str bool bytes list tuple dict set frozenset isinstance "
     "ord repr any all divmod pow super Exception ValueError TypeError KeyError IndexError LookupError "
     "ZeroDivisionError ArithmeticError OverflowError RuntimeError NotImplementedError".split()
 )
