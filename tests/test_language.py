@@ -104,6 +104,15 @@ class ModulesTest(unittest.TestCase):
             names = module_names(tree)
             self.assertEqual(len(names), len(set(names)), path)
 
+    def test_tables_hold_functions_of_their_own_file(self):
+        for path, tree in trees():
+            own = [node.name for node in tree.body if isinstance(node, ast.FunctionDef)]
+            for node in tree.body:
+                if isinstance(node, ast.Assign):
+                    for part in ast.walk(node.value):
+                        if isinstance(part, ast.Name):
+                            self.assertIn(part.id, own, (path, node.lineno))
+
     def test_imports_name_the_defining_file_without_rings(self):
         defined = {f"wokenlives.{path.stem}": tree for path, tree in trees()}
         ways = {name: [] for name in defined}

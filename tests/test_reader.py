@@ -14,9 +14,10 @@ LOOK = ("c", "look", ())
 class BeginTest(AloneCase):
     def test_what_is_not_due(self):
         program = class_k("set c = 1;")
-        own = own_of(held=(("s", 1),), asked=("t", 1))
-        for call in (read_alone, run_alone, oracle_alone):
-            self.assertEqual(call(program, NAME, own, MOMENT, [0, 1, 1]), ([RUN], ("notdue",), own))
+        for frames in ((("life", 0, ()),), (("life", 1, ()),), ()):
+            own = own_of(frames, held=(("s", 1),), asked=("t", 1))
+            for call in (read_alone, run_alone, oracle_alone):
+                self.assertEqual(call(program, NAME, own, MOMENT, [0, 1, 1]), ([RUN], ("notdue",), own))
 
     def test_a_list_that_is_used_up(self):
         program = class_k("set c = 1; tell hi(c); set c = 2;")
