@@ -1,9 +1,9 @@
 """Bodies and expressions compiled into rows for the machine."""
 
+from wokenlives.scopes import ASKING_WORDS
+
 # What stores a value in a name, by the row that gives the name's value.
 STORING = {"argument": "setargument", "own": "setown", "look": "set"}
-
-ASKING_WORDS = ("length", "first", "spare", "waiting", "isopen")
 
 
 class Code:

@@ -2,9 +2,8 @@
 
 from wokenlives.acting import Actor, Answers, happening_alone
 from wokenlives.blocks import numbered
+from wokenlives.scopes import ASKING_WORDS
 from wokenlives.values import is_true, truth
-
-ASKING_WORDS = ("length", "first", "spare", "waiting", "isopen")
 
 
 class Reader(Actor):

@@ -3,6 +3,9 @@
 from wokenlives.blocks import all_behind, numbered
 from wokenlives.flats import bodies
 
+# The words that ask a thing in an expression.
+ASKING_WORDS = ("length", "first", "spare", "waiting", "isopen")
+
 
 class Scope:
     """One body of a flat class in a program with items of these kinds."""
