@@ -36,7 +36,7 @@ class Forest:
         """Count and run the next generation."""
         if len(self.lines) + len(self.ahead) > most:
             raise TooLong(most)
-        generation = self.ahead
+        generation = list(self.ahead)
         self.ahead = []
         for line in generation:
             self.run_line(line)
