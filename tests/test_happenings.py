@@ -218,6 +218,37 @@ class MadeLivesTest(HappenCase):
         self.assertEqual((world.state("ann.1:m"), world.number("ann.1:m")), (8, 2))
 
 
+class NamesOfStatesTest(HappenCase):
+    """Lives whose names are words of states, as the values of a line that has the form of such a state."""
+
+    def test_a_line_that_looks_like_a_stand(self):
+        for life in ("unborn", "running", "ended"):
+            world = start(f"class k() {{ life {{ put me into q; }} }} start {life} = k(); start zoe = k();")
+            world, happening = self.both(world, life)
+            self.assertEqual(happening.founds, ((life, ("due", 0, 0), 0), ("q", (), 0)))
+            world, happening = self.both(world, "zoe")
+            self.assertEqual(happening.founds, (("zoe", ("due", 0, 0), 0), ("q", (life,), 1)))
+
+    def test_a_line_that_looks_like_a_stand_beside_a_made_life(self):
+        world = start("class k() { life { put me into q; make c = e(); put c into q; } } class e() { }"
+                      "start unborn = k(); start zoe = k();")
+        world, _ = self.both(world, "unborn")
+        world, _ = self.both(world, "zoe")
+        self.assertEqual(world.state("q"), ("unborn", "unborn.1", "zoe", "zoe.1"))
+        world = start("class k() { life { take c from q; put unborn into q; make c = e(); take c from q; } } class e() { }"
+                      "class p() { life { put me into q; } } start unborn = p(); start zoe = k();")
+        world, _ = self.both(world, "unborn")
+        world, happening = self.both(world, "zoe")
+        self.assertEqual(happening.founds, (
+            ("zoe", ("due", 0, 0), 0), ("q", ("unborn",), 1), ("c", 0, 0), ("zoe.1", None, 0)))
+
+    def test_a_line_of_due_and_a_moment_is_no_stand(self):
+        world = start("class k() { life { put due into q; put 0 into q; put 0 into q; } } start zoe = k();"
+                      "start due = k() asleep;")
+        world, _ = self.both(world, "zoe")
+        self.assertEqual((world.state("q"), world.due(), world.coming()), (("due", 0, 0), [], None))
+
+
 class MachineTest(HappenCase):
     def test_the_machine_alone_runs_compiled_rows(self):
         program = read_program("class k() { life { sleep; } } start ann = k();")

@@ -43,7 +43,7 @@ class Scene:
         self.touches.append(told)
         if told[2] == "change":
             # A life that the happening makes was not there before it.
-            found = None if state == ("unborn",) else state
+            found = None if deed == "born" else state
             self.founds.setdefault(thing, (thing, found, number))
             self.states[thing] = after
             self.numbers[thing] = told[1]
