@@ -29,6 +29,12 @@ FUNCTIONS = {
     "sound": ["broken_rule(world)"],
     "standstill": ["standstill(world)"],
     "forests": ["lone_forest(world, *, most=120)"],
+    "crossings": ["meeting(first, second)", "crossings(forest)", "nearest_crossing(world, *, most=120)"],
+    "partings": ["nearest_parting(world, *, most=120)", "run_parting(world, *, until=None, most=200, lines=120)",
+                 "course_decides(world, names)"],
+    "counts": ["count_courses(forest)", "course_at(forest, place)", "place_of(forest, names)", "leaves(forest)", "rounds(forest)"],
+    "exchanges": ["distance(forest, first, second)", "exchange_way(forest, first, second)"],
+    "worldtext": ["write_world(world)", "read_world(program, text)"],
 }
 CLASSES = {
     ("programs", "Program"): ["item(self, name)"],

@@ -8,6 +8,11 @@ MOST_FRAMES = 8
 MOST_MADE = 9
 MOST_DOTS = 3
 
+# All that a life can fall with.
+FAULTS = (
+    "spent", "nolife", "kind", "zero", "big", "early", "deep", "count", "unheld", "full", "far", "many",
+)
+
 
 class Falls(LivesError):
     """The life falls with this fault."""
@@ -72,7 +77,7 @@ class Actor:
         """Go on a little."""
         raise NotImplementedError("step")
 
-    def go(self):
+    def have_happening(self):
         """Have the whole happening."""
         self.begin()
         while self.outcome is None:
@@ -329,7 +334,7 @@ def happening_alone(actor):
     """(askings, outcome, own part) of a happening whose answers come from a list."""
     answers = actor.answerer
     try:
-        actor.go()
+        actor.have_happening()
     except UsedUp:
         return answers.askings, ("open",), actor.before
     return answers.askings, actor.outcome, actor.own_part()

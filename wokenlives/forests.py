@@ -63,6 +63,11 @@ def woken_by(happening, behind):
     return [life for life in behind.due() if life in changed]
 
 
+def last_name(line):
+    """The last name of a line, for which it stands in a course."""
+    return line[-1]
+
+
 def lone_forest(world, *, most=120):
     """The whole forest of a world."""
     forest = Forest(world)

@@ -70,7 +70,7 @@ def happen(world, life, *, by="reader"):
         actor = Machine(world.program, life, before, moment, scene)
     else:
         actor = Reader(world.program, life, before, moment, scene)
-    actor.go()
+    actor.have_happening()
     scene.owns[life] = actor.own_part()
     behind = World(world.program, moment, scene.states, scene.numbers, scene.owns)
     founds = tuple(scene.founds.values())
