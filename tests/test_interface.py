@@ -35,6 +35,13 @@ FUNCTIONS = {
     "counts": ["count_courses(forest)", "course_at(forest, place)", "place_of(forest, names)", "leaves(forest)", "rounds(forest)"],
     "exchanges": ["distance(forest, first, second)", "exchange_way(forest, first, second)"],
     "worldtext": ["write_world(world)", "read_world(program, text)"],
+    "ways": ["ways(world, *, until, most=300)", "last_fork(world, *, until, most=300)"],
+    "journeys": ["take_back(world, happening)"],
+    "records": ["record_of(happenings)", "write_record(record)", "read_record(text)"],
+    "looker": ["faults(program, record)"],
+    "witness": ["alike_witness(forest)", "accepts_alike(world, witness)", "accepts_parting(world, parting)",
+                "no_end(world, *, most=60)"],
+    "desk": ["replay(text, rows)"],
 }
 CLASSES = {
     ("programs", "Program"): ["item(self, name)"],
@@ -44,6 +51,9 @@ CLASSES = {
     ("runs", "Run"): ["__iter__(self)"],
     ("forests", "Forest"): ["__iter__(self)", "__len__(self)", "__contains__(self, line)", "touches_of(self, line)",
                             "world_behind(self, line)"],
+    ("journeys", "Journey"): ["__init__(self, world)", "go(self, life)", "go_all(self, names)",
+                              "go_on(self, *, until=None, most=200)", "back(self, count)", "names(self)", "text(self)"],
+    ("desk", "Desk"): ["__init__(self, text)", "answer(self, row)", "journal_rows(self)"],
 }
 
 

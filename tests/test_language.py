@@ -237,6 +237,13 @@ class FormsTest(unittest.TestCase):
                     self.assertIsInstance(node.type, ast.Name, (path, node.lineno))
                     self.assertNotIn(node.type.id, ("Exception", "TypeError", "AttributeError", "RuntimeError"))
 
+    def test_only_plain_assignments_in_the_end(self):
+        for path, tree in trees():
+            for node in ast.walk(tree):
+                for row in getattr(node, "finalbody", []):
+                    self.assertIsInstance(row, ast.Assign, (path, row.lineno))
+                    self.assertIsInstance(row.value, (ast.Name, ast.Attribute, ast.Constant), (path, row.lineno))
+
     def test_no_strings_inside_of_braces(self):
         for path, tree in trees():
             for node in ast.walk(tree):

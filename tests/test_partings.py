@@ -3,6 +3,7 @@
 import random
 import unittest
 
+from tests.chance import calm_program_text
 from tests.crowds import crowd, meeting_behind, orders, shortest_parting, start, whole_courses
 from tests.plain import whole
 from tests.texts import refusal
@@ -226,19 +227,18 @@ class RunPartingTest(PartingCase):
 
     def test_random_worlds(self):
         seen = {}
-        for seed in range(120):
+        for seed in range(200):
             chance = random.Random(seed)
-            world = crowd(chance, 4)
+            world = crowd(chance, 4) if seed % 2 else start(calm_program_text(chance))
             for _ in range(chance.choice((0, 0, 1))):
                 if world.due():
                     world, _ = happen(world, chance.choice(world.due()))
             found = None
-            if limited(world, most=8) is None:
-                found = self.parting_of(world, most=8)
+            if limited(world, most=10) is None:
+                found = self.parting_of(world, most=10)
                 self.check_length(world, found)
-            moment = None if found is None else follow(world, found[0], advancing=True)[0].time
-            seen[moment] = True
-        self.assertGreater(len(seen), 2)
+            seen[None if found is None else len(found[0])] = True
+        self.assertGreater(len(seen), 3)
 
     def check_length(self, world, found):
         """No parting of advancing courses has a shorter course."""

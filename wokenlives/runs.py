@@ -3,6 +3,7 @@
 from wokenlives.books import ordered_rows
 from wokenlives.errors import NoCourse, NotDue
 from wokenlives.happenings import happen
+from wokenlives.values import value_text
 from wokenlives.worlds import advance
 
 
@@ -82,3 +83,14 @@ def told_rows(happenings):
 def teller(row):
     """The life that told a row."""
     return row[0]
+
+
+def told_texts(happenings):
+    """The list of the texts of the told rows."""
+    return [told_text(row) for row in told_rows(happenings)]
+
+
+def told_text(row):
+    """The text of a told row."""
+    life, time, stage, word, values = row
+    return " ".join([life, str(time), str(stage), word] + [value_text(value) for value in values])

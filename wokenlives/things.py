@@ -5,6 +5,9 @@ from wokenlives.values import LIMIT, is_number
 
 LONGEST_LINE = 20
 
+# The items that are things themselves.
+THINGS = ("cell", "line", "store", "gate", "wheel")
+
 # What the arguments of each deed are; `values` stands for any number of values.
 SHAPES = {
     ("cell", "look"): (),

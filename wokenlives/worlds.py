@@ -2,10 +2,7 @@
 
 from wokenlives.errors import Quiet
 from wokenlives.owns import first_own
-from wokenlives.things import start_state
-
-# The items that are things themselves.
-THINGS = ("cell", "line", "store", "gate", "wheel")
+from wokenlives.things import THINGS, start_state
 
 
 class World:

@@ -3,9 +3,10 @@
 from wokenlives.acting import FAULTS
 from wokenlives.errors import BadWorld, Unsound
 from wokenlives.sound import broken_rule
+from wokenlives.things import THINGS
 from wokenlives.values import value_text
 from wokenlives.words import BadWords, Words
-from wokenlives.worlds import THINGS, World, mark_starts
+from wokenlives.worlds import World, mark_starts
 
 
 def write_world(world):
