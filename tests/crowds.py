@@ -36,8 +36,10 @@ def crowd_part(chance, life, lives, woken, meet):
     for _ in range(chance.randint(0, 3)):
         if chance.random() < meet:
             found.append(chance.choice((
-                "set both = both + 1;", f"set c{life} = both;", f"stop {chance.choice(lives)};", f"wake {chance.choice(lives)};",
-                "tell saw(both);", "tell saw(both, length(q));", "put me into q;", "take both from turn;", "seize 1 of s; free 1 of s;", "open g;", "wait g;",
+                "set both = both + 1;", f"set c{life} = both;", f"stop {chance.choice(lives)};",
+                f"wake {chance.choice(lives)};",
+                "tell saw(both);", "tell saw(both, length(q));", "put me into q;", "take both from turn;",
+                "seize 1 of s; free 1 of s;", "open g;", "wait g;",
                 f"set {chance.choice(lives)}.m = now;", f"set c{life} = stand({chance.choice(lives)});",
             )))
         else:

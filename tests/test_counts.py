@@ -163,7 +163,8 @@ class LeavesAndRoundsTest(unittest.TestCase):
     def test_several_generations(self):
         forest = forest_of(TREE)
         self.assertEqual(leaves(forest), [("eve",), ("ann", "bob"), ("ann", "cat", "dan")])
-        self.assertEqual(rounds(forest), [[("ann",), ("eve",)], [("ann", "bob"), ("ann", "cat")], [("ann", "cat", "dan")]])
+        self.assertEqual(rounds(forest), [[("ann",), ("eve",)], [("ann", "bob"), ("ann", "cat")],
+                                          [("ann", "cat", "dan")]])
         forest = forest_of(chain(9))
         self.assertEqual(leaves(forest), [("ann", "bob") * 4 + ("ann",)])
         self.assertEqual([len(lines) for lines in rounds(forest)], [1] * 9)
@@ -183,7 +184,8 @@ class CrossedTest(unittest.TestCase):
     def test_crossings_come_before_all_other_errors(self):
         forest = forest_of(CROSSED)
         for call, more in (
-            (count_courses, ()), (course_at, (0,)), (course_at, (-1,)), (course_at, (10 ** 9,)), (leaves, ()), (rounds, ()),
+            (count_courses, ()), (course_at, (0,)), (course_at, (-1,)), (course_at, (10 ** 9,)), (leaves, ()),
+            (rounds, ()),
             (place_of, (["ann", "bob", "cat"],)), (place_of, (["zoe"],)), (place_of, ([],)),
             (distance, (["ann", "bob", "cat"], ["ann", "bob", "cat"])), (distance, ([], ["zoe"])),
             (exchange_way, (["ann", "bob", "cat"], ["ann", "bob", "cat"])), (exchange_way, (["zoe"], [])),

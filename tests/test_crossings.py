@@ -113,7 +113,8 @@ class CrossingsTest(CrossingCase):
         found = self.crossings_of(start(text))
         self.assertEqual(found[0], (("ann",), ("bob",), "cat", 0))
         self.assertEqual([row[:2] for row in found], [
-            (("ann",), ("bob",)), (("ann",), ("bob", "cat")), (("bob",), ("ann", "cat")), (("ann", "cat"), ("bob", "cat"))])
+            (("ann",), ("bob",)), (("ann",), ("bob", "cat")), (("bob",), ("ann", "cat")),
+            (("ann", "cat"), ("bob", "cat"))])
 
     def test_without_due_lives(self):
         for text in ("", "class k() { } start ann = k() asleep;", "class k() { } start ann = k() at 1;"):
@@ -163,7 +164,8 @@ class NearestTest(CrossingCase):
         start ann = w(); start bob = x(); start cat = f() asleep; start zoe = y();"""
         world = start(text)
         self.assertEqual([row[3] for row in self.crossings_of(world)], [0, 1])
-        text = text.replace("zoe = y()", "zoe = w()").replace("wake cat;", "if me == ann { wake cat; } else { set d = 7; }")
+        text = text.replace("zoe = y()", "zoe = w()").replace("wake cat;",
+                                                              "if me == ann { wake cat; } else { set d = 7; }")
         self.assertEqual(self.crossings_of(start(text)), [
             (("bob",), ("zoe",), "d", 0), (("bob",), ("ann", "cat"), "c", 1)])
 

@@ -151,16 +151,19 @@ class AskingRowsTest(DeskCase):
         self.assertEqual(self.answer("moment", desk), ["7 1"])
 
     def test_states(self):
-        for thing, text in (("c", "0 number 0"), ("q", "0 number 0"), ("s", "2 2 0 0 number 0"), ("g", "0 0 number 0"), ("w", "3 0 number 0"),
+        for thing, text in (("c", "0 number 0"), ("q", "0 number 0"), ("s", "2 2 0 0 number 0"), ("g", "0 0 number 0"),
+                            ("w", "3 0 number 0"),
                             ("ann:m", "5 number 0"), ("ann", "due 0 0 number 0"), ("dan", "asleep number 0")):
             self.assertEqual(self.answer("state " + thing), [text])
         self.answer("run 99")
-        for thing, text in (("c", "4 number 4"), ("q", "2 eve -4 number 2"), ("s", "2 0 1 fay 2 0 number 3"), ("g", "0 1 fay number 1"),
+        for thing, text in (("c", "4 number 4"), ("q", "2 eve -4 number 2"), ("s", "2 0 1 fay 2 0 number 3"),
+                            ("g", "0 1 fay number 1"),
                             ("ann", "ended number 4"), ("eve", "fallen zero number 2"), ("fay", "waits g number 2")):
             self.assertEqual(self.answer("state " + thing), [text])
         desk = Desk("cell c = 0; class k() { life { set c = none; sleep; } } start ann = k();")
         self.answer("go ann", desk)
-        self.assertEqual((self.answer("state c", desk), self.answer("state ann", desk)), (["none number 1"], ["asleep number 2"]))
+        self.assertEqual((self.answer("state c", desk), self.answer("state ann", desk)),
+                         (["none number 1"], ["asleep number 2"]))
 
     def test_states_are_what_stands_behind_the_number(self):
         self.answer("run 8")
@@ -174,10 +177,12 @@ class AskingRowsTest(DeskCase):
         self.answer("go bob")
         self.assertEqual(self.answer("book c"), [
             "0 look bob 0 0 look", "1 change bob 0 0 set", "1 look bob 0 0 look"])
-        self.assertEqual(self.answer("book bob"), ["1 change bob 0 0 run", "1 look bob 0 0 tell", "2 change bob 0 0 hold"])
+        self.assertEqual(self.answer("book bob"), ["1 change bob 0 0 run", "1 look bob 0 0 tell",
+                                                   "2 change bob 0 0 hold"])
         self.answer("go ann")
         self.assertEqual(self.answer("book c"), [
-            "0 look bob 0 0 look", "1 change bob 0 0 set", "1 look ann 0 0 look", "1 look bob 0 0 look", "2 change ann 0 0 set",
+            "0 look bob 0 0 look", "1 change bob 0 0 set", "1 look ann 0 0 look", "1 look bob 0 0 look",
+            "2 change ann 0 0 set",
             "2 look ann 0 0 look"])
         self.assertEqual(self.answer("book w"), [])
 
@@ -204,14 +209,17 @@ class AskingRowsTest(DeskCase):
         self.assertEqual(self.answer("parting"), ["", "ann", "bob", "c"])
         self.refused("orders", "Crossed", ("ann",), ("bob",))
         self.answer("until 0")
-        self.assertEqual((self.answer("alike"), self.answer("orders"), self.answer("parting")), (["yes"], ["1"], ["none"]))
+        self.assertEqual((self.answer("alike"), self.answer("orders"), self.answer("parting")),
+                         (["yes"], ["1"], ["none"]))
         desk = Desk(TREE)
-        self.assertEqual((self.answer("alike", desk), self.answer("orders", desk), self.answer("parting", desk)), (["yes"], ["15"], ["none"]))
+        self.assertEqual((self.answer("alike", desk), self.answer("orders", desk), self.answer("parting", desk)),
+                         (["yes"], ["15"], ["none"]))
         desk = Desk(CROSSED)
         self.assertEqual(self.answer("parting", desk), ["", "bob", "cat", "c"])
         self.assertEqual(refusal(desk.answer, "orders"), ("Crossed", ("bob",), ("cat",)))
         desk = Desk("")
-        self.assertEqual((self.answer("alike", desk), self.answer("orders", desk), self.answer("parting", desk)), (["yes"], ["1"], ["none"]))
+        self.assertEqual((self.answer("alike", desk), self.answer("orders", desk), self.answer("parting", desk)),
+                         (["yes"], ["1"], ["none"]))
 
     def test_a_parting_with_a_course(self):
         desk = Desk("""cell c = 0; class w() { life { wake cat; } } class x() { life { wake dan; } } class f() { life { set c = c + 1; } }
@@ -263,18 +271,26 @@ class AskingRowsTest(DeskCase):
 
 class BadRowsTest(DeskCase):
     def test_rows_that_are_none(self):
-        rows = ["", " ", "go", "go ", "go  ann", " go ann", "go ann ", "go ann bob", "go\tann", "Go ann", "gone ann", "goann",
-                "run", "run ", "run -1", "run 01", "run 00", "run +1", "run 1.0", "run one", "run 1 ", "run  1", "run 1 1", "run 1234567890",
-                "run -0", "run none", "run \u0661", "run \u00b2", "run 1\n", "RUN 1", "until", "until ", "until -1", "until 007", "until x",
-                "until 1000000000", "until 1 2", "undo ", " undo", "undo 1", "undo undo", "Undo", "due ", "due ann", " due", "due\n",
-                "moment 0", "moment ", "state", "state ", "state  c", "state c ", "state c d", "State c", "states c", "book", "book ", "book c c",
-                "told ", "told ann", "alike ", "alike 120", "orders 1", "orders ", "parting x", "partings", "world ", "world w", "journal ",
-                "journal 1", "journals", "1", "none", "ann", "redo", "stop", "go\nann", "\n", "due due", "run\t1", "\u00e4"]
+        rows = ["", " ", "go", "go ", "go  ann", " go ann", "go ann ", "go ann bob", "go\tann", "Go ann", "gone ann",
+                "goann",
+                "run", "run ", "run -1", "run 01", "run 00", "run +1", "run 1.0", "run one", "run 1 ", "run  1",
+                "run 1 1", "run 1234567890",
+                "run -0", "run none", "run \u0661", "run \u00b2", "run 1\n", "RUN 1", "until", "until ", "until -1",
+                "until 007", "until x",
+                "until 1000000000", "until 1 2", "undo ", " undo", "undo 1", "undo undo", "Undo", "due ", "due ann",
+                " due", "due\n",
+                "moment 0", "moment ", "state", "state ", "state  c", "state c ", "state c d", "State c", "states c",
+                "book", "book ", "book c c",
+                "told ", "told ann", "alike ", "alike 120", "orders 1", "orders ", "parting x", "partings", "world ",
+                "world w", "journal ",
+                "journal 1", "journals", "1", "none", "ann", "redo", "stop", "go\nann", "\n", "due due", "run\t1",
+                "\u00e4"]
         for row in rows:
             self.refused(row, "BadRow", row)
 
     def test_rows_of_the_right_form(self):
-        for row in ("go ann", "run 0", "run 10", "run 999999999", "until 0", "until 999999999", "undo", "due", "moment", "state c",
+        for row in ("go ann", "run 0", "run 10", "run 999999999", "until 0", "until 999999999", "undo", "due", "moment",
+                    "state c",
                     "book c", "told", "alike", "orders", "parting", "world", "journal"):
             self.answer(row)
 
@@ -343,7 +359,8 @@ class ReplayTest(DeskCase):
             shown = [state_of(desk)]
             for _ in range(12):
                 due = desk.answer("due")
-                row = chance.choice([f"go {life}" for life in due] + ["run 1", "run 2", "until 1", "undo", "undo", "go zoe"])
+                row = chance.choice([f"go {life}" for life in due] + ["run 1", "run 2", "until 1", "undo", "undo",
+                                                                      "go zoe"])
                 error = refusal(desk.answer, row)
                 if row == "undo":
                     self.assertEqual(error, ("NoPlace", 1) if len(shown) == 1 else None)

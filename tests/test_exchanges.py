@@ -46,9 +46,11 @@ class ExchangesTest(unittest.TestCase):
 
     def test_a_course_to_itself(self):
         forest = forest_of(TREE)
-        self.assertEqual(self.check(forest, ["ann", "bob", "cat", "dan", "eve"], ["ann", "bob", "cat", "dan", "eve"]), [])
+        self.assertEqual(self.check(forest, ["ann", "bob", "cat", "dan", "eve"], ["ann", "bob", "cat", "dan", "eve"]),
+                         [])
         self.assertEqual(self.check(forest_of(""), [], []), [])
-        self.assertEqual(self.check(forest_of(chain(9)), ["ann", "bob"] * 4 + ["ann"], ["ann", "bob"] * 4 + ["ann"]), [])
+        self.assertEqual(self.check(forest_of(chain(9)), ["ann", "bob"] * 4 + ["ann"], ["ann", "bob"] * 4 + ["ann"]),
+                         [])
 
     def test_a_course_to_its_reverse(self):
         names, text = lone_lives(4)
@@ -60,20 +62,24 @@ class ExchangesTest(unittest.TestCase):
         forest = forest_of(TREE)
         self.assertEqual(self.check(forest, ["ann", "bob", "cat", "dan", "eve"], ["eve", "ann", "cat", "dan", "bob"]),
                          [1, 2, 3, 2, 1, 0])
-        self.assertEqual(self.check(forest, ("eve", "ann", "cat", "dan", "bob"), ("ann", "eve", "cat", "bob", "dan")), [0, 3])
+        self.assertEqual(self.check(forest, ("eve", "ann", "cat", "dan", "bob"), ("ann", "eve", "cat", "bob", "dan")),
+                         [0, 3])
 
     def test_a_name_that_comes_twice(self):
         text = """class a() { life { wake bob; sleep; wake cat; } } class b() { life { wake ann; } } class e() { life { } }
         start ann = a(); start bob = b() asleep; start cat = e() asleep; start dan = e();"""
         forest = forest_of(text)
-        self.assertEqual(self.check(forest, ["dan", "ann", "bob", "ann", "cat"], ["ann", "bob", "ann", "cat", "dan"]), [0, 1, 2, 3])
+        self.assertEqual(self.check(forest, ["dan", "ann", "bob", "ann", "cat"], ["ann", "bob", "ann", "cat", "dan"]),
+                         [0, 1, 2, 3])
 
     def test_lists_that_are_no_whole_courses(self):
         forest = forest_of(TREE)
         good = ["ann", "bob", "cat", "dan", "eve"]
         for first, second, place in (
-            (good[:3], good, 3), (good, good[:4], 4), (good[:2], good[:1], 2), (good, ["ann", "zoe"], 1), (["zoe"], ["ann"], 0),
-            (good, [], 0), ([], good, 0), (good + ["eve"], ["bob"], 5), (good, good + ["ann"], 5), (["ann", "ann"], [], 1),
+            (good[:3], good, 3), (good, good[:4], 4), (good[:2], good[:1], 2), (good, ["ann", "zoe"], 1),
+            (["zoe"], ["ann"], 0),
+            (good, [], 0), ([], good, 0), (good + ["eve"], ["bob"], 5), (good, good + ["ann"], 5),
+            (["ann", "ann"], [], 1),
         ):
             for call in (distance, exchange_way):
                 self.assertEqual(refusal(call, forest, first, second), ("NoCourse", place))

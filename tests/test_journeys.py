@@ -72,7 +72,8 @@ class TakeBackTest(unittest.TestCase):
 
     def test_ends_and_falls(self):
         self.back(start(ITEMS + "class k() { life { seize 1 of s; leave; } } start ann = k();"), "ann")
-        self.back(start(ITEMS + "class k() { life { make c = k(); seize 1 of s; set c = 1 / 0; } } start ann = k();"), "ann")
+        self.back(start(ITEMS + "class k() { life { make c = k(); seize 1 of s; set c = 1 / 0; } } start ann = k();"),
+                  "ann")
 
     def test_the_moment_is_that_of_the_happening(self):
         world = advance(start(ITEMS + "class k() { life { hold 3; } } start ann = k() at 5;"))
@@ -98,7 +99,8 @@ class JourneyCase(unittest.TestCase):
 
     def told(self, journey):
         """All that a journey shows."""
-        return (whole(journey.world), [told_happening(row) for row in journey.happenings], journey.names(), journey.text())
+        return (whole(journey.world), [told_happening(row) for row in journey.happenings], journey.names(),
+                journey.text())
 
 
 class JourneyTest(JourneyCase):
@@ -167,7 +169,8 @@ class JourneyTest(JourneyCase):
         journey = Journey(start(self.TEXT))
         journey.go("bob")
         before = self.told(journey)
-        for names, place in ((["bob"], 0), (["zoe", "ann"], 0), (["ann", "ann"], 1), (["ann", "cat", "dan"], 2), (["ann", "cat", "cat"], 2),
+        for names, place in ((["bob"], 0), (["zoe", "ann"], 0), (["ann", "ann"], 1), (["ann", "cat", "dan"], 2),
+                             (["ann", "cat", "cat"], 2),
                              (["ann", "cat", "bob", "ann", "cat", "bob", "bob"], 6), (["ann", ""], 1)):
             self.assertEqual(limited(journey, names), ("NoCourse", place))
             self.assertEqual(self.told(journey), before)
@@ -198,7 +201,8 @@ class JourneyTest(JourneyCase):
         world = start(self.TEXT)
         one, other = Journey(world), Journey(world)
         one.go_on()
-        self.assertEqual((other.happenings, other.text(), write_world(world)), ([], write_world(world), write_world(start(self.TEXT))))
+        self.assertEqual((other.happenings, other.text(), write_world(world)),
+                         ([], write_world(world), write_world(start(self.TEXT))))
 
     def test_new_lists(self):
         journey = Journey(start(self.TEXT))

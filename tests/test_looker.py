@@ -34,7 +34,8 @@ def fitting(deed, answer):
     value = answer is None or isinstance(answer, str) or (number and abs(answer) <= 999999999)
     truth = answer in (0, 1) and number
     names = isinstance(answer, tuple) and all(isinstance(name, str) for name in answer)
-    forms = {"look take first": value, "length spare waiting": number and 0 <= answer <= 999999999, "stand": number and 0 <= answer <= 6,
+    forms = {"look take first": value, "length spare waiting": number and 0 <= answer <= 999999999,
+             "stand": number and 0 <= answer <= 6,
              "seize wait isopen put born run tell sleep hold waits end fall wake stop grant": truth, "free open": names,
              "set shut": answer is None}
     return any(deed in words.split(" ") and fits for words, fits in forms.items())
@@ -227,11 +228,40 @@ class LifeSliceTest(FaultsCase):
         record = true_record()
         for place, at, answers in (
             (0, 0, (2, -1, None, "ann", ())), (0, 1, (10 ** 9, -10 ** 9, (), ("ann",))), (0, 2, (0, 1, "ann", ())),
-            (3, 1, (2, None, "ann", ("dan",))), (6, 1, (None, 0, "ann", (1,), (None,), ("ann", 2))), (3, 3, (-1, 2, None)),
+            (3, 1, (2, None, "ann", ("dan",))), (6, 1, (None, 0, "ann", (1,), (None,), ("ann", 2))),
+            (3, 3, (-1, 2, None)),
         ):
             for answer in answers:
                 found = self.faults(with_touch(record, place, at, answer=answer))
                 self.assertIn(("life", record[place][0], place), found, (place, at, answer))
+
+    ASKER = read_program("""cell c = 0; line q; store s = 2; gate g open; wheel w = 3; mark m = 5; class e() { }
+    class k() { var v = 0; life { if length(q) { } if first(q) { } if spare(s) { } if waiting(s) { } if isopen(g) { } if waiting(g) { }
+    if stand(bob) { } if c { } if me.m { } take v from w; take v from q; wake bob; wake bob after 2; stop bob; set c = 0; shut g; tell hi();
+    open g; sleep; } } start ann = k(); start bob = e() asleep;""")
+    FITTING = {
+        "length": (0, 1, 999999999), "first": (None, -999999999, 999999999, "bob", "zoe"), "spare": (0, 999999999),
+        "waiting": (0, 999999999), "isopen": (0, 1), "stand": (0, 6), "look": (None, -999999999, 999999999, "", "none"),
+        "take": (None, 0, "ann"), "wake": (0, 1), "stop": (0, 1), "set": (None,), "shut": (None,), "tell": (0, 1),
+        "sleep": (0, 1),
+    }
+    ANY = (-1, -2, 2, 7, 10 ** 9, -10 ** 9, 10 ** 9 - 1, 1 - 10 ** 9, 0, 1, None, "ann", (), ("ann",), ("ann", 1),
+           (None,))
+
+    def test_all_fitting_answers(self):
+        """What this life asks depends on no answer but that of open, so the slice fails only by answers that do not fit."""
+        record = record_of(follow(start_world(self.ASKER), ["ann"])[1])
+        self.assertEqual(self.faults(record, self.ASKER), [])
+        for at, told in enumerate(record[0][3]):
+            if told[3] in ("run", "open"):
+                continue
+            right = self.FITTING[told[3]]
+            for answer in right + self.ANY:
+                found = self.faults(with_touch(record, 0, at, answer=answer), self.ASKER)
+                self.assertEqual(("life", "ann", 0) not in found, fitting(told[3], answer), (told, answer))
+                if answer in right:
+                    self.assertNotIn(("life", "ann", 0), found)
+                self.assertEqual(("thing", told[0], 0) in found, answer != told[5])
 
     def test_an_answer_for_another_deed(self):
         # The touch is one that the life does not ask for; its answer would be none for what it asks.
@@ -268,12 +298,14 @@ class LifeSliceTest(FaultsCase):
         self.assertEqual(self.faults(with_touch(record, 1, at, arguments=(4, 4))),
                          [("life", "bob", 1), ("life", "bob.1", 2), ("thing", "bob.1", 1)])
         # Another value is right for the class, but not what bob asks and what bob.1 does.
-        self.assertEqual(self.faults(with_touch(record, 1, at, arguments=("k", 9))), [("life", "bob", 1), ("life", "bob.1", 2)])
+        self.assertEqual(self.faults(with_touch(record, 1, at, arguments=("k", 9))),
+                         [("life", "bob", 1), ("life", "bob.1", 2)])
 
     def test_a_birth_with_another_answer(self):
         record = true_record(("ann", "bob", "bob.1"))
         at = [told[3] for told in record[1][3]].index("born")
-        self.assertEqual(self.faults(with_touch(record, 1, at, answer=0)), [("life", "bob.1", 2), ("thing", "bob.1", 1)])
+        self.assertEqual(self.faults(with_touch(record, 1, at, answer=0)),
+                         [("life", "bob.1", 2), ("thing", "bob.1", 1)])
 
     def test_two_births_of_one_life(self):
         born = ("zoe", 1, "change", "born", ("e",), 1)
@@ -283,14 +315,25 @@ class LifeSliceTest(FaultsCase):
         both = (("ann", 0, 0, (born,)), ("bob", 0, 0, (again, ran)), ("zoe", 0, 0, end))
         self.assertEqual(self.faults(both), [("life", "ann", 0), ("life", "bob", 1), ("thing", "zoe", 1)])
         # The first one counts: if it is of class k, zoe has other askings.
-        other = (("ann", 0, 0, (born[:4] + (("k", 4), 1),)), ("bob", 0, 0, (again[:4] + (("e",), 1), ran)), ("zoe", 0, 0, end))
-        self.assertEqual(self.faults(other), [("life", "ann", 0), ("life", "bob", 1), ("life", "zoe", 2), ("thing", "zoe", 1)])
+        other = (("ann", 0, 0, (born[:4] + (("k", 4), 1),)), ("bob", 0, 0, (again[:4] + (("e",), 1), ran)),
+                 ("zoe", 0, 0, end))
+        self.assertEqual(self.faults(other), [("life", "ann", 0), ("life", "bob", 1), ("life", "zoe", 2),
+                                              ("thing", "zoe", 1)])
         # One with another answer does not count.
-        other = (("ann", 0, 0, (born[:4] + (("k", 4), 0),)), ("bob", 0, 0, (again[:4] + (("e",), 1), ran)), ("zoe", 0, 0, end))
+        other = (("ann", 0, 0, (born[:4] + (("k", 4), 0),)), ("bob", 0, 0, (again[:4] + (("e",), 1), ran)),
+                 ("zoe", 0, 0, end))
         self.assertEqual(self.faults(other), [("life", "ann", 0), ("life", "bob", 1), ("thing", "zoe", 0)])
         # A birth in the life's own happening, or behind it, comes too late.
         self.assertIn(("life", "zoe", 0), self.faults((("zoe", 0, 0, (born, ran) + end),)))
         self.assertIn(("life", "zoe", 0), self.faults((("zoe", 0, 0, end), ("ann", 0, 0, (born,)), ("zoe", 0, 0, end))))
+
+    def test_another_deed_is_no_birth(self):
+        other = ("zoe", 0, "look", "wake", (0, 0), 1)
+        born = (("zoe", 1, "change", "born", ("e",), 1), ("zoe", 2, "change", "wake", (0, 0), 1))
+        end = (("zoe", 3, "change", "run", (0, 0), 1), ("zoe", 4, "change", "end", (), 1))
+        record = (("ann", 0, 0, (other,)), ("bob", 0, 0, born), ("zoe", 0, 0, end))
+        self.assertEqual(self.faults(record), [("life", "ann", 0), ("life", "bob", 1), ("thing", "zoe", 0)])
+        self.assertIn(("life", "zoe", 1), self.faults((("ann", 0, 0, (other,)), ("zoe", 0, 0, end))))
 
     def test_a_birth_of_a_life_that_a_start_item_names(self):
         record = true_record(("ann", "bob"))
@@ -324,11 +367,13 @@ class ThingSliceTest(FaultsCase):
         record = true_record()
         self.assertEqual(self.faults(with_touch(record, 0, 1, arguments=(1,))), [("life", "ann", 0), ("thing", "c", 0)])
         self.assertEqual(self.faults(with_touch(record, 3, 1, arguments=(0,))), [("life", "dan", 3), ("thing", "s", 3)])
-        self.assertEqual(self.faults(with_touch(record, 3, 1, arguments=(10 ** 9,))), [("life", "dan", 3), ("thing", "s", 3)])
+        self.assertEqual(self.faults(with_touch(record, 3, 1, arguments=(10 ** 9,))),
+                         [("life", "dan", 3), ("thing", "s", 3)])
         self.assertEqual(self.faults(with_touch(record, 3, 1, deed="put")), [("life", "dan", 3), ("thing", "s", 3)])
 
     def test_marks(self):
-        for mark, right in (("ann:m", True), ("zoe:m", True), ("a:b:m", True), (":m", True), ("c:m", True), ("ann:n", False), ("ann:c", False),
+        for mark, right in (("ann:m", True), ("zoe:m", True), ("a:b:m", True), (":m", True), ("c:m", True),
+                            ("ann:n", False), ("ann:c", False),
                             ("ann:k", False), ("ann:m:", False), ("ann:m.", False), (":", False), ("m:ann", False)):
             record = (("ann", 0, 0, ((mark, 0, "look", "look", (), 5), (mark, 1, "change", "set", (None,), None),
                                      (mark, 1, "look", "look", (), None))),)
@@ -374,7 +419,8 @@ class MomentSliceTest(FaultsCase):
         record = true_record(("ann",))
         self.assertEqual(self.faults(with_happening(record, 0, time=-1)), [("life", "ann", 0), ("moments", "", 0)])
         self.assertEqual(self.faults(with_happening(record, 0, stage=-1)), [("life", "ann", 0), ("moments", "", 0)])
-        self.assertEqual(self.faults(with_happening(record, 0, time=-1, stage=5)), [("life", "ann", 0), ("moments", "", 0)])
+        self.assertEqual(self.faults(with_happening(record, 0, time=-1, stage=5)),
+                         [("life", "ann", 0), ("moments", "", 0)])
 
     def test_stands_that_are_due_before(self):
         # eve runs at time 9, where ann, bob and dan were due before.
@@ -403,7 +449,8 @@ class MomentSliceTest(FaultsCase):
 
     def test_a_touch_that_does_not_fit_leaves_the_stand(self):
         program = read_program("class k() { } start cat = k() asleep;")
-        for deed, arguments in (("wake", (3,)), ("wake", (-1, 0)), ("wake", (3, None)), ("walk", (3, 0)), ("set", (3,))):
+        for deed, arguments in (("wake", (3,)), ("wake", (-1, 0)), ("wake", (3, None)), ("walk", (3, 0)),
+                                ("set", (3,))):
             record = (("cat", 0, 0, (("cat", 1, "change", deed, arguments, 1),)), ("cat", 4, 0, ()))
             self.assertEqual(self.faults(record, program), [("life", "cat", 0), ("thing", "cat", 0)])
 
@@ -413,7 +460,8 @@ class MomentSliceTest(FaultsCase):
         record = (("cat", 0, 0, (born, ("zoe", 2, "change", "wake", (3, 0), 1))), ("cat", 4, 0, ()))
         self.assertEqual(self.faults(record, program), [("life", "cat", 0), ("moments", "", 1)])
         # A thing that is no stand is not due.
-        record = (("cat", 0, 0, (("c", 1, "change", "born", ("k",), 1), ("c", 2, "change", "wake", (3, 0), 1))), ("cat", 4, 0, ()))
+        record = (("cat", 0, 0, (("c", 1, "change", "born", ("k",), 1), ("c", 2, "change", "wake", (3, 0), 1))),
+                  ("cat", 4, 0, ()))
         self.assertEqual(self.faults(record, program), [("life", "cat", 0), ("thing", "c", 0)])
 
     def test_the_first_place_alone(self):
@@ -475,7 +523,8 @@ def change_record(chance, record):
         return record
     place = chance.randrange(len(record))
     life, time, stage, touches = record[place]
-    change = chance.choice(("cut", "twice", "swap", "life", "time", "stage", "touch", "touch", "touch", "touch", "one", "none"))
+    change = chance.choice(("cut", "twice", "swap", "life", "time", "stage", "touch", "touch", "touch", "touch", "one",
+                            "none"))
     if change == "cut":
         return record[:place] + record[place + 1:]
     if change == "twice":
@@ -495,9 +544,12 @@ def change_record(chance, record):
     if change == "one":
         return with_happening(record, place, touches=touches[:at] + touches[at + chance.choice((1, 2)):])
     value = chance.choice((0, 1, 2, None, "ann", "bob", -1, 9))
-    parts = {"thing": chance.choice(("ann", "bob", "cboth", "num", "both", "zoe", "ann:m", "ann:x")), "number": chance.randint(0, 5),
-             "mode": chance.choice(("look", "change")), "deed": chance.choice(("look", "set", "run", "born", "free", "wake", "zzz")),
-             "arguments": chance.choice(((), (value,), (0, 0), ("kann",))), "answer": chance.choice((value, (), ("ann",)))}
+    parts = {"thing": chance.choice(("ann", "bob", "cboth", "num", "both", "zoe", "ann:m", "ann:x")),
+             "number": chance.randint(0, 5),
+             "mode": chance.choice(("look", "change")), "deed": chance.choice(("look", "set", "run", "born", "free",
+                                                                               "wake", "zzz")),
+             "arguments": chance.choice(((), (value,), (0, 0), ("kann",))),
+             "answer": chance.choice((value, (), ("ann",)))}
     word = chance.choice(list(parts))
     return with_touch(record, place, at, **{word: parts[word]})
 

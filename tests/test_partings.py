@@ -78,7 +78,8 @@ class NearestPartingTest(PartingCase):
                          ((), "ann", "bob", "c"))
 
     def test_none(self):
-        for text in ("", "class k() { } start ann = k() asleep;", "class k() { } start ann = k() at 3; start bob = k() at 3;",
+        for text in ("", "class k() { } start ann = k() asleep;",
+                     "class k() { } start ann = k() at 3; start bob = k() at 3;",
                      "cell c = 1; class k() { life { set c = c; } } start ann = k(); start bob = k();"):
             self.assertIsNone(self.parting_of(start(text)))
             self.assertIsNone(nearest_parting(start(text), most=2))
@@ -116,7 +117,8 @@ class NearestPartingTest(PartingCase):
         for most in range(4):
             self.assertEqual(bounded(nearest_parting, world, most), ("TooLong", most))
         endless = "class a() { life { while 1 { wake bob; sleep; } } } class b() { life { while 1 { wake ann; sleep; } } }"
-        self.assertEqual(refusal(nearest_parting, start(endless + "start ann = a(); start bob = b() asleep;")), ("TooLong", 120))
+        self.assertEqual(refusal(nearest_parting, start(endless + "start ann = a(); start bob = b() asleep;")),
+                         ("TooLong", 120))
 
     def test_random_worlds(self):
         lengths = {}
@@ -137,7 +139,8 @@ class NearestPartingTest(PartingCase):
             world = crowd(random.Random(seed), 5)
             if bounded(lone_forest, world, 6) is None and nearest_parting(world) is None:
                 courses = whole_courses(world)
-                ends = {repr((whole(behind), books(found))) for behind, found in [follow(world, names) for names in courses]}
+                ends = {repr((whole(behind), books(found))) for behind,
+                        found in [follow(world, names) for names in courses]}
                 self.assertEqual(len(ends), 1)
                 lines = list(lone_forest(world))
                 self.assertEqual(sorted(courses), sorted([line[-1] for line in order] for order in orders(lines)))
@@ -276,7 +279,8 @@ class CourseDecidesTest(unittest.TestCase):
         text = """cell c = 0; class a() { life { set c = c + 1; wake bob; sleep; set c = c + 1; } }
         class b() { life { set c = c + 1; wake cat; } } class d() { life { set c = c + 1; wake ann; } }
         start ann = a(); start bob = b() asleep; start cat = d() asleep; start dan = e(); class e() { }"""
-        for names in (["ann", "bob", "cat", "ann", "dan"], ["dan", "ann", "bob", "cat", "ann"], ["ann", "bob", "dan", "cat", "ann"]):
+        for names in (["ann", "bob", "cat", "ann", "dan"], ["dan", "ann", "bob", "cat", "ann"],
+                      ["ann", "bob", "dan", "cat", "ann"]):
             self.assertIs(self.decides(text, names), True)
         self.assertIs(self.decides(text.replace("class e() { }", "class e() { life { set c = c; } }"),
                                    ["ann", "bob", "cat", "ann", "dan"]), False)
@@ -326,8 +330,10 @@ class CourseDecidesTest(unittest.TestCase):
 
     def test_lists_that_are_no_courses(self):
         world = start("cell c = 0; " + STEP + "start ann = k(); start bob = k(); start cat = k() asleep; start dan = k() at 1;")
-        for names, place in (([], 0), (["ann"], 1), (["bob"], 1), (["ann", "ann"], 1), (["cat", "ann"], 0), (["dan"], 0),
-                             (["zoe", "ann", "bob"], 0), (["ann", "", "bob"], 1), (["ann", "bob", "cat"], 2), (["ann", "c"], 1),
+        for names, place in (([], 0), (["ann"], 1), (["bob"], 1), (["ann", "ann"], 1), (["cat", "ann"], 0),
+                             (["dan"], 0),
+                             (["zoe", "ann", "bob"], 0), (["ann", "", "bob"], 1), (["ann", "bob", "cat"], 2),
+                             (["ann", "c"], 1),
                              (["ann", "bob", "zoe"], 2), (["ann", "bob", "dan"], 2), (("bob", "ann:m"), 1)):
             self.assertEqual(refusal(course_decides, world, names), ("NoCourse", place), names)
         self.assertIs(course_decides(world, ["ann", "bob"]), False)

@@ -70,7 +70,8 @@ class WriteTest(RecordTest):
         self.assertEqual(write_record((("ann", 3, 12, ()), ("b.1", 4, 0, ()))), "happening ann 3 12\nhappening b.1 4 0")
 
     def test_answers(self):
-        for answer, text in (((), "lives 0"), (("ann",), "lives 1 ann"), (("none", "ann.1"), "lives 2 none ann.1"), (None, "value none"),
+        for answer, text in (((), "lives 0"), (("ann",), "lives 1 ann"), (("none", "ann.1"), "lives 2 none ann.1"),
+                             (None, "value none"),
                              (-7, "value -7"), ("ann", "value ann"), (0, "value 0")):
             record = (("ann", 0, 0, (("s", 2, "look", "free", ("none", None, 5, -5), answer),)),)
             row = "touch s 2 look free 4 none none 5 -5 " + text
@@ -85,7 +86,8 @@ class ReadTest(unittest.TestCase):
         self.assertEqual(read_record(""), ())
 
     def test_happenings_without_touches(self):
-        self.assertEqual(read_record("happening none 3 12\nhappening b.1:c 4 0"), (("none", 3, 12, ()), ("b.1:c", 4, 0, ())))
+        self.assertEqual(read_record("happening none 3 12\nhappening b.1:c 4 0"),
+                         (("none", 3, 12, ()), ("b.1:c", 4, 0, ())))
 
     def test_names_and_values(self):
         found = read_record("happening none 0 0\ntouch none 0 look none 3 none n0ne none value none")
@@ -132,7 +134,8 @@ class BadRecordTest(unittest.TestCase):
         self.refused(HEAD + ROW + "\n", 3)
         self.refused(HEAD + "\n" + ROW, 2)
         for row in (ROW, "happening bob 1 0"):
-            for new in (" " + row, row + " ", row.replace(" ", "  ", 1), row + " 0", row.rpartition(" ")[0], row.partition(" ")[2],
+            for new in (" " + row, row + " ", row.replace(" ", "  ", 1), row + " 0", row.rpartition(" ")[0],
+                        row.partition(" ")[2],
                         row.replace(" ", "\t", 1), row + "\r"):
                 self.refused(HEAD + ROW + "\n" + new, 3)
 
@@ -153,7 +156,8 @@ class BadRecordTest(unittest.TestCase):
         self.words("touch s 2 look free 0 lives 1 bob", 8, bad)
 
     def test_values(self):
-        bad = ("", "00", "01", "-0", "-01", "+1", "1234567890", "-1234567890", "1a", "A", "aB", "a_b", "a!", ".a", ":a", "-", "\u0661",
+        bad = ("", "00", "01", "-0", "-01", "+1", "1234567890", "-1234567890", "1a", "A", "aB", "a_b", "a!", ".a", ":a",
+               "-", "\u0661",
                "a\u00e4", "a\r")
         self.words(ROW, 6, bad)
         self.words(ROW, 7, bad)
@@ -189,7 +193,8 @@ class BadRecordTest(unittest.TestCase):
             row = chance.choice(rows)
             at = chance.randrange(len(row))
             change = chance.choice(("set", "cut", "put", "row"))
-            word = chance.choice(("0", "1", "2", "-1", "none", "ann", "lives", "value", "look", "01", "X", "", "a.1:b", "happening"))
+            word = chance.choice(("0", "1", "2", "-1", "none", "ann", "lives", "value", "look", "01", "X", "", "a.1:b",
+                                  "happening"))
             if change == "set":
                 row[at] = word
             elif change == "cut":

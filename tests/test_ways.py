@@ -127,7 +127,8 @@ class WaysTest(WaysCase):
             ("ann 4 0 b", "ann 4 0 a", "ann 5 0 a", "bob 0 0 b", "bob 0 0 a", "bob 1 0 a")])
 
     def test_a_way_that_ends_at_once(self):
-        for text, until in (("", 0), ("class k() { } start ann = k() asleep;", 99), ("class k() { life { tell a(); } } start ann = k() at 3;", 2)):
+        for text, until in (("", 0), ("class k() { } start ann = k() asleep;", 99),
+                            ("class k() { life { tell a(); } } start ann = k() at 3;", 2)):
             self.assertEqual(self.found(start(text), until), ([()], None))
             self.assertEqual(ways(start(text), until=until, most=1), [()])
             self.assertEqual(refused(ways, start(text), until=until, most=0), ("TooLong", 0))

@@ -36,7 +36,8 @@ class AlikeTest(unittest.TestCase):
     def test_the_witness(self):
         text = "cell c = 3; class k() { life { set c = c; wake bob; } } class e() { } start ann = k(); start bob = e() asleep;"
         self.assertEqual(self.witness(text), (
-            (("ann",), (("ann", 1, "change", "run", (0, 0), 1), ("c", 0, "look", "look", (), 3), ("c", 0, "look", "set", (3,), None),
+            (("ann",), (("ann", 1, "change", "run", (0, 0), 1), ("c", 0, "look", "look", (), 3),
+                        ("c", 0, "look", "set", (3,), None),
                         ("bob", 1, "change", "wake", (0, 0), 1), ("ann", 2, "change", "end", (), 1))),
             (("ann", "bob"), (("bob", 2, "change", "run", (0, 0), 1), ("bob", 3, "change", "end", (), 1)))))
 
@@ -76,7 +77,8 @@ class AlikeTest(unittest.TestCase):
                 before + behind, before + (witness[at],) * 2 + behind, before + ((line, touches[1:]),) + behind,
                 before + ((line, touches + touches[:1]),) + behind, before + ((line, ()),) + behind,
                 before + ((line, touches[:1] * 2 + touches[1:]),) + behind, before + ((line, touches[::-1]),) + behind,
-                before + ((line + ("zoe",), touches),) + behind, before + ((("zoe",), touches),) + behind, before + (((), touches),) + behind,
+                before + ((line + ("zoe",), touches),) + behind, before + ((("zoe",), touches),) + behind,
+                before + (((), touches),) + behind,
                 before + ((line, (("zoe",) + first[1:],) + touches[1:]),) + behind,
                 before + ((line, ((first[0], 99) + first[2:],) + touches[1:]),) + behind,
                 before + ((line, (first[:2] + ("look",) + first[3:],) + touches[1:]),) + behind,
@@ -159,13 +161,15 @@ class PartingTest(unittest.TestCase):
         self.assertIs(self.accepts((), "ann", "ann", "ann"), False)
 
     def test_lives_that_are_not_due(self):
-        for first, second in (("dan", "fay"), ("fay", "dan"), ("dan", "ann"), ("zoe", "dan"), ("dan", "zoe"), ("c", "dan"), ("dan", "")):
+        for first, second in (("dan", "fay"), ("fay", "dan"), ("dan", "ann"), ("zoe", "dan"), ("dan", "zoe"),
+                              ("c", "dan"), ("dan", "")):
             self.assertIs(self.accepts(("ann", "bob"), first, second, "c"), False)
         self.assertIs(self.accepts(("ann",), "dan", "eve", "c"), False)
         self.assertIs(self.accepts((), "dan", "eve", "c"), False)
 
     def test_courses_that_are_none(self):
-        for course in (("ann", "ann", "bob"), ("ann", "bob", "zoe"), ("eve",), ("ann", "bob", "fay"), ("",), ("c",), ("ann", "bob", "ann:m"),
+        for course in (("ann", "ann", "bob"), ("ann", "bob", "zoe"), ("eve",), ("ann", "bob", "fay"), ("",), ("c",),
+                       ("ann", "bob", "ann:m"),
                        ("ann", "bob", "dan")):
             self.assertIs(self.accepts(course, "dan", "eve", "c"), False)
 
@@ -228,7 +232,8 @@ class NoEndTest(unittest.TestCase):
         # Three worlds: the last one is looked at, too.
         self.assertIsNone(self.found("class k() { } start ann = k(); start bob = k();", most=2))
         for most in (0, 1):
-            self.assertEqual(self.found("class k() { } start ann = k(); start bob = k();", most=most), ("TooLong", most))
+            self.assertEqual(self.found("class k() { } start ann = k(); start bob = k();", most=most),
+                             ("TooLong", most))
         self.assertIsNone(self.found("class k() { life { while 1 { hold 1; } } } start ann = k();"))
         self.assertIsNone(self.found("class k() { life { while 1 { hold 0; } } } start ann = k();"))
 

@@ -168,9 +168,12 @@ class BadRowsTest(unittest.TestCase):
         self.refused([" "], 1)
 
     def test_the_moment(self):
-        for row in ("", "moment", "moment 0", "moment 0 0 0", "moment  0 0", "moment 0 0 ", " moment 0 0", "moment -1 0", "moment 0 -1",
-                    "moment 00 0", "moment 0 +1", "moment 1234567890 0", "moment 0 1234567890", "moment 0 none", "moment a 0",
-                    "Moment 0 0", "thing c cell 0 0", "moment\t0 0", "moment 0 0\r", "moment 0 \u0663", "moment 0 \u00b2"):
+        for row in ("", "moment", "moment 0", "moment 0 0 0", "moment  0 0", "moment 0 0 ", " moment 0 0",
+                    "moment -1 0", "moment 0 -1",
+                    "moment 00 0", "moment 0 +1", "moment 1234567890 0", "moment 0 1234567890", "moment 0 none",
+                    "moment a 0",
+                    "Moment 0 0", "thing c cell 0 0", "moment\t0 0", "moment 0 0\r", "moment 0 \u0663",
+                    "moment 0 \u00b2"):
             self.change("moment 0 0", row)
         rows = rows_of(RICH_TEXT)
         self.refused(rows[1:], 1)
@@ -180,7 +183,8 @@ class BadRowsTest(unittest.TestCase):
 
     def test_words_of_all_rows(self):
         for at, row in enumerate(rows_of(RICH_TEXT)):
-            for new in ("", row + " ", " " + row, row.replace(" ", "  ", 1), row + " 0 0", row + "\r", row.rpartition(" ")[0],
+            for new in ("", row + " ", " " + row, row.replace(" ", "  ", 1), row + " 0 0", row + "\r",
+                        row.rpartition(" ")[0],
                         row.partition(" ")[2], row.replace(" ", "\t")):
                 rows = rows_of(RICH_TEXT)
                 rows[at] = new
@@ -213,10 +217,12 @@ class BadRowsTest(unittest.TestCase):
             ("thing c cell 1 none", "thing c mark 1 none"), ("thing c cell 1 none", "thing c line 1 0"),
             ("thing c cell 1 none", "thing c class 1 none"), ("thing c:m mark 0 2", None),
             ("thing bob:m mark 0 2", "thing bob:m cell 0 2"), ("thing bob:m mark 0 2", "thing bob:m stand 0 asleep"),
-            ("thing bob stand 2 asleep", "thing bob start 2 asleep"), ("thing bob stand 2 asleep", "thing bob cell 2 0"),
+            ("thing bob stand 2 asleep", "thing bob start 2 asleep"),
+            ("thing bob stand 2 asleep", "thing bob cell 2 0"),
             ("thing g gate 1 0 1 dan", "thing g store 1 0 1 dan"), ("thing w wheel 1 3 1", "thing w cell 1 3"),
             ("thing fay.1 stand 1 asleep", "thing fay.1 mark 1 asleep"), ("thing e line 0 0", "thing e cell 0 0"),
-            ("thing q line 3 3 bob -12 0", "thing q cell 3 3"), ("thing s store 2 3 1 1 ann 2 1 cat 2", "thing s wheel 2 3 1"),
+            ("thing q line 3 3 bob -12 0", "thing q cell 3 3"),
+            ("thing s store 2 3 1 1 ann 2 1 cat 2", "thing s wheel 2 3 1"),
         ):
             if new is not None:
                 self.change(old, new)
@@ -229,7 +235,8 @@ class BadRowsTest(unittest.TestCase):
                 self.refused(rows[:at] + [f"thing {name} {kind}"] + rows[at:], at + 1)
 
     def test_numbers(self):
-        for old, place in (("thing c cell 1 none", 3), ("thing ann stand 2 due 7 0", 3), ("thing ann stand 2 due 7 0", 5),
+        for old, place in (("thing c cell 1 none", 3), ("thing ann stand 2 due 7 0", 3),
+                           ("thing ann stand 2 due 7 0", 5),
                            ("thing ann stand 2 due 7 0", 6), ("thing w wheel 1 3 1", 4), ("thing w wheel 1 3 1", 5),
                            ("thing g gate 1 0 1 dan", 3), ("thing g gate 1 0 1 dan", 4), ("thing g gate 1 0 1 dan", 5),
                            ("thing q line 3 3 bob -12 0", 4), ("thing t store 1 1 0 1 cat 1 0", 9),
@@ -246,7 +253,8 @@ class BadRowsTest(unittest.TestCase):
                            ("own cat o 0 fields 0 frames 1 life 2 0 held 1 t 1 asked s 2", 17)):
             words = old.split(" ")
             number = words[place]
-            for word in ("0" + number, "+" + number, "-" + number, "-1", "1234567890", "none", "x", number + ".", "", "\u0661"):
+            for word in ("0" + number, "+" + number, "-" + number, "-1", "1234567890", "none", "x", number + ".", "",
+                         "\u0661"):
                 self.change(old, " ".join(words[:place] + [word] + words[place + 1:]))
 
     def test_values(self):
@@ -254,15 +262,19 @@ class BadRowsTest(unittest.TestCase):
                            ("thing q line 3 3 bob -12 0", 6), ("thing q line 3 3 bob -12 0", 7),
                            ("own bob b 0 fields 1 0 frames 1 life 5 0 held 0 asked none", 6),
                            ("own ann k 0 fields 2 5 ann frames 3 life 3 0 d 2 2 5 ann r 1 0 held 1 s 2 asked none", 7),
-                           ("own ann k 0 fields 2 5 ann frames 3 life 3 0 d 2 2 5 ann r 1 0 held 1 s 2 asked none", 15)):
+                           ("own ann k 0 fields 2 5 ann frames 3 life 3 0 d 2 2 5 ann r 1 0 held 1 s 2 asked none",
+                            15)):
             words = old.split(" ")
-            for word in ("007", "-0", "-01", "+3", "1234567890", "-1234567890", "Bob", "_a", ".a", ":a", "-", "--1", "3a", "-a", "{",
+            for word in ("007", "-0", "-01", "+3", "1234567890", "-1234567890", "Bob", "_a", ".a", ":a", "-", "--1",
+                         "3a", "-a", "{",
                          "\u00e4b", "\u0661"):
                 self.change(old, " ".join(words[:place] + [word] + words[place + 1:]))
 
     def test_stands(self):
-        for state in ("due", "due 7", "due 7 0 0", "asleep 0", "asleep none", "running 1", "unborn unborn", "waits", "waits s s",
-                      "ended 0", "fallen", "fallen zero zero", "fallen many many", "fallen sleepy", "fallen none", "fallen notdue",
+        for state in ("due", "due 7", "due 7 0 0", "asleep 0", "asleep none", "running 1", "unborn unborn", "waits",
+                      "waits s s",
+                      "ended 0", "fallen", "fallen zero zero", "fallen many many", "fallen sleepy", "fallen none",
+                      "fallen notdue",
                       "fallen Zero", "Asleep", "awake", "sleep", "3", "none", "due a 0", "due -1 0", "due 0 00"):
             self.change("thing ann stand 2 due 7 0", "thing ann stand 2 " + state)
 
@@ -274,17 +286,23 @@ class BadRowsTest(unittest.TestCase):
 
     def test_counts(self):
         for old, new in (
-            ("thing q line 3 3 bob -12 0", "thing q line 3 2 bob -12 0"), ("thing q line 3 3 bob -12 0", "thing q line 3 4 bob -12 0"),
+            ("thing q line 3 3 bob -12 0", "thing q line 3 2 bob -12 0"),
+            ("thing q line 3 3 bob -12 0", "thing q line 3 4 bob -12 0"),
             ("thing e line 0 0", "thing e line 0 1"), ("thing e line 0 0", "thing e line 0 999999999"),
             ("thing g gate 1 0 1 dan", "thing g gate 1 0 0 dan"), ("thing g gate 1 0 1 dan", "thing g gate 1 0 2 dan"),
             ("thing s store 2 3 1 1 ann 2 1 cat 2", "thing s store 2 3 1 2 ann 2 1 cat 2"),
             ("thing s store 2 3 1 1 ann 2 1 cat 2", "thing s store 2 3 1 1 ann 2 2 cat 2"),
             ("thing s store 2 3 1 1 ann 2 1 cat 2", "thing s store 2 3 1 1 ann 2 0 cat 2"),
-            ("own dan x 0 fields 0 frames 1 life 1 0 held 0 asked none", "own dan x 0 fields 1 frames 1 life 1 0 held 0 asked none"),
-            ("own dan x 0 fields 0 frames 1 life 1 0 held 0 asked none", "own dan x 0 fields 0 frames 2 life 1 0 held 0 asked none"),
-            ("own dan x 0 fields 0 frames 1 life 1 0 held 0 asked none", "own dan x 0 fields 0 frames 0 life 1 0 held 0 asked none"),
-            ("own dan x 0 fields 0 frames 1 life 1 0 held 0 asked none", "own dan x 0 fields 0 frames 1 life 1 1 held 0 asked none"),
-            ("own dan x 0 fields 0 frames 1 life 1 0 held 0 asked none", "own dan x 0 fields 0 frames 1 life 1 0 held 1 asked none"),
+            ("own dan x 0 fields 0 frames 1 life 1 0 held 0 asked none",
+             "own dan x 0 fields 1 frames 1 life 1 0 held 0 asked none"),
+            ("own dan x 0 fields 0 frames 1 life 1 0 held 0 asked none",
+             "own dan x 0 fields 0 frames 2 life 1 0 held 0 asked none"),
+            ("own dan x 0 fields 0 frames 1 life 1 0 held 0 asked none",
+             "own dan x 0 fields 0 frames 0 life 1 0 held 0 asked none"),
+            ("own dan x 0 fields 0 frames 1 life 1 0 held 0 asked none",
+             "own dan x 0 fields 0 frames 1 life 1 1 held 0 asked none"),
+            ("own dan x 0 fields 0 frames 1 life 1 0 held 0 asked none",
+             "own dan x 0 fields 0 frames 1 life 1 0 held 1 asked none"),
             ("own cat o 0 fields 0 frames 1 life 2 0 held 1 t 1 asked s 2",
              "own cat o 0 fields 0 frames 1 life 2 0 held 0 t 1 asked s 2"),
         ):
@@ -317,7 +335,8 @@ class BadRowsTest(unittest.TestCase):
             row = chance.choice(rows)
             at = chance.randrange(len(row))
             change = chance.choice(("set", "set", "cut", "put", "row", "swap"))
-            word = chance.choice(("0", "1", "2", "-1", "none", "ann", "s", "g", "fay.1", "asleep", "due", "01", "X", "", "life", "5"))
+            word = chance.choice(("0", "1", "2", "-1", "none", "ann", "s", "g", "fay.1", "asleep", "due", "01", "X", "",
+                                  "life", "5"))
             if change == "set":
                 row[at] = word
             elif change == "cut":
@@ -344,7 +363,8 @@ NUMBER = r"(?:0|[1-9][0-9]{0,8})"
 VALUE = rf"(?:{NUMBER}|-[1-9][0-9]{{0,8}}|[a-z][^ ]*)"
 FAULT = "(?:spent|nolife|kind|zero|big|early|deep|count|unheld|full|far|many)"
 STATES = {
-    "cell": VALUE, "mark": VALUE, "line": ("list", VALUE), "wheel": f"{NUMBER} {NUMBER}", "gate": (NUMBER, "list", "[^ ]+"),
+    "cell": VALUE, "mark": VALUE, "line": ("list", VALUE), "wheel": f"{NUMBER} {NUMBER}",
+    "gate": (NUMBER, "list", "[^ ]+"),
     "store": (f"{NUMBER} {NUMBER}", "list", f"[^ ]+ {NUMBER}", "list", f"[^ ]+ {NUMBER}"),
     "stand": rf"(?:asleep|due {NUMBER} {NUMBER}|running|unborn|waits [^ ]+|ended|fallen {FAULT})",
 }
@@ -427,8 +447,10 @@ class MissingTest(unittest.TestCase):
 
     def test_a_row_too_many(self):
         rows = rows_of(RICH_TEXT)
-        for row, at in (("thing ann:n mark 0 0", 3), ("thing ann:m:m mark 0 0", 3), ("thing abe:m mark 0 0", 1), ("thing :m mark 0 0", 1),
-                        ("thing ann.1 stand 0 asleep", 2), ("thing zoe.1 stand 0 asleep", 28), ("thing c:m mark 0 0", 6),
+        for row, at in (("thing ann:n mark 0 0", 3), ("thing ann:m:m mark 0 0", 3), ("thing abe:m mark 0 0", 1),
+                        ("thing :m mark 0 0", 1),
+                        ("thing ann.1 stand 0 asleep", 2), ("thing zoe.1 stand 0 asleep", 28),
+                        ("thing c:m mark 0 0", 6),
                         ("thing fay.1: mark 0 none", 16)):
             self.refused(rows[:at] + [row] + rows[at:])
         for name, at in (("abe", 28), ("c", 30), ("zoe.1", 37), ("ann.1", 29), ("Zoe", 28)):
@@ -540,7 +562,8 @@ class UnsoundTest(unittest.TestCase):
         self.broken(0, ("thing c cell 1 none", "thing c cell 1 -999999999"))
 
     def test_the_least_rule(self):
-        self.broken(3, ("waits g", "waits c"), ("wheel 1 3 1", "wheel 1 3 3"), ("thing c cell 1 none", "thing c cell 1 zoe"))
+        self.broken(3, ("waits g", "waits c"), ("wheel 1 3 1", "wheel 1 3 3"),
+                    ("thing c cell 1 none", "thing c cell 1 zoe"))
         self.broken(1, ("waits g", "waits c"), ("own fay y 1", "own fay y 2"))
 
     def test_forms_come_before_rules(self):
@@ -554,7 +577,8 @@ class UnsoundTest(unittest.TestCase):
             world = run(start_world(read_program(calm_program_text(chance))), most=15).end
             for life in world.lives():
                 owns = {life: world.own_part(chance.choice(world.lives()))}
-                other = changed(world, {"num": None, life: chance.choice((("asleep",), ("ended",), ("due", 3, 1)))}, owns)
+                other = changed(world, {"num": None, life: chance.choice((("asleep",), ("ended",), ("due", 3, 1)))},
+                                owns)
                 rule = broken_rule(other)
                 found = refusal(read_world, world.program, write_world(other))
                 self.assertEqual(found, None if rule == 0 else ("Unsound", rule))

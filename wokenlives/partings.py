@@ -31,7 +31,7 @@ def course_of_lines(lines):
     left = list(lines)
     course = []
     while left != []:
-        line = min([line for line in left if line[:-1] not in left], key=last_name)
+        line = min([other for other in left if other[:-1] not in left], key=last_name)
         left.remove(line)
         course.append(line[-1])
     return course

@@ -85,7 +85,8 @@ def answer_from(words):
 def plain_word(words):
     """The name or word that comes next, which begins with a letter."""
     word = words.next_word()
-    if word[0] < "a" or word[0] > "z" or word.strip(PLAIN_SIGNS) != "":
+    # The letters stand behind the digits, the dot and the colon.
+    if word.strip(PLAIN_SIGNS) != "" or word[0] < "a":
         raise BadWords()
     return word
 
