@@ -276,6 +276,30 @@ class FormsTest(unittest.TestCase):
                                 if part.func.attr in ("append", "extend", "pop", "insert", "remove", "clear", "update"):
                                     self.assertNotIn(ast.unparse(part.func.value), over, (path, part.lineno))
 
+    def test_nothing_is_added_to_what_it_is_read_from(self):
+        for path, tree in trees():
+            for node in ast.walk(tree):
+                if isinstance(node, ast.AugAssign):
+                    self.check_apart(path, node.target, [node.value])
+                if isinstance(node, ast.Call) and isinstance(node.func, ast.Attribute):
+                    if node.func.attr in ("extend", "update"):
+                        self.check_apart(path, node.func.value, node.args)
+
+    def check_apart(self, path, changed, parts):
+        while isinstance(changed, ast.Subscript):
+            changed = changed.value
+        for part in parts:
+            self.assertNotIn(ast.unparse(changed), self.handed(part), (path, changed.lineno))
+
+    def handed(self, part):
+        """The names and attributes of an expression that are handed on themselves: a call hands on its answer."""
+        if isinstance(part, ast.Call):
+            return []
+        found = [ast.unparse(part)] if isinstance(part, (ast.Name, ast.Attribute)) else []
+        for inner in ast.iter_child_nodes(part):
+            found.extend(self.handed(inner))
+        return found
+
 
 if __name__ == "__main__":
     unittest.main()

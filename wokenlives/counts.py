@@ -46,7 +46,7 @@ def weights_of(forest):
     weights = {line: 1 for line in forest}
     for line in reversed(list(forest)):
         if len(line) > 1:
-            weights[line[:-1]] += weights[line]
+            weights[line[:-1]] = weights[line[:-1]] + weights[line]
     return weights
 
 
